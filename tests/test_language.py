@@ -1,0 +1,230 @@
+"""The rules of the language that can be seen in the files of the package alone."""
+
+import ast
+import builtins
+import importlib
+import inspect
+import os
+import re
+import unittest
+
+FOLDER = os.path.join(os.path.dirname(os.path.dirname(os.path.abspath(__file__))), "needleblind")
+LIBRARY = {
+    "heapq": {"heappush", "heappop", "heapify", "heapreplace", "heappushpop"},
+    "math": {"gcd", "lcm", "isqrt", "comb", "perm", "factorial"},
+    "itertools": {"product", "combinations", "permutations", "chain", "accumulate", "pairwise", "islice",
+                  "zip_longest"},
+    "collections": {"defaultdict", "deque"},
+}
+BUILTINS = set("""len range enumerate zip min max sum abs sorted reversed int str bool bytes list tuple dict set
+    isinstance ord repr any all divmod pow iter next map property staticmethod super type Exception ValueError
+    TypeError KeyError IndexError LookupError ZeroDivisionError RuntimeError NotImplemented""".split())
+METHODS = set("""append clear copy count endswith extend find get index insert isalnum isalpha isdigit islower
+    isspace isupper items join keys ljust lower lstrip partition pop remove replace reverse rfind rjust rpartition
+    rsplit rstrip setdefault split splitlines startswith strip update upper values zfill bit_length add discard
+    sort""".split())
+DOUBLE = set("""__init__ __eq__ __repr__ __str__ __len__ __call__ __iter__ __contains__ __getitem__ __xor__""".split())
+BARRED = set("mro elements open input law version_info with_traceback add_note register".split())
+BARRED_ATTRIBUTES = set("""items keys values pop update append clear extend insert remove reverse setdefault sort args
+    encode decode hex fromhex format""".split())
+BARRED_WORDS = re.compile(r"\b(typing|typing_extensions|enum|Enum|IntEnum|StrEnum|Flag|IntFlag|Generic|Protocol|ABC|"
+                          r"ABCMeta|namedtuple|NamedTuple|TypedDict|TYPE_CHECKING|abstractmethod)\b|dataclass|overload|"
+                          r"contextmanager|_wall|_WallAttr")
+STATEMENTS = (ast.Assign, ast.AugAssign, ast.If, ast.While, ast.For, ast.Return, ast.Break, ast.Continue, ast.Pass,
+              ast.Raise, ast.Expr, ast.FunctionDef, ast.ClassDef, ast.ImportFrom, ast.Try, ast.Delete)
+
+
+def sources():
+    found = {}
+    for name in sorted(os.listdir(FOLDER)):
+        if name != "__pycache__":
+            with open(os.path.join(FOLDER, name), encoding="utf-8") as file:
+                found[name] = file.read()
+    return found
+
+
+def bound_names(tree):
+    """All names that a file binds anywhere, but for attributes."""
+    found = []
+    for node in ast.walk(tree):
+        if isinstance(node, ast.Name) and not isinstance(node.ctx, ast.Load):
+            found.append(node.id)
+        elif isinstance(node, ast.arg):
+            found.append(node.arg)
+        elif isinstance(node, (ast.FunctionDef, ast.ClassDef)):
+            found.append(node.name)
+        elif isinstance(node, ast.alias):
+            found.append(node.asname or node.name)
+    return found
+
+
+class Language(unittest.TestCase):
+    def setUp(self):
+        self.sources = sources()
+        self.trees = {name: ast.parse(text) for name, text in self.sources.items()}
+
+    def each(self, *kinds):
+        for name, tree in self.trees.items():
+            for node in ast.walk(tree):
+                if isinstance(node, kinds):
+                    yield f"{name}:{getattr(node, 'lineno', 0)}", node
+
+    def test_files_and_sizes(self):
+        self.assertIn("__init__.py", self.sources)
+        self.assertLessEqual(len(self.sources), 100)
+        for name, text in self.sources.items():
+            self.assertRegex(name, r"^[a-z0-9_]+\.py$")
+            lines = text.split("\n")
+            self.assertLessEqual(len(lines), 399, name)
+            for line in lines:
+                self.assertLessEqual(len(line), 120, name)
+            self.assertRegex(text, r"^[ -~\n]*$", name)
+            self.assertIsNone(BARRED_WORDS.search(text), name)
+        for where, node in self.each(ast.FunctionDef):
+            self.assertLessEqual(node.end_lineno - node.lineno + 1, 40, where)
+
+    def test_statements(self):
+        for where, node in self.each(ast.stmt):
+            self.assertIsInstance(node, STATEMENTS, where)
+        for where, node in self.each(ast.FunctionDef):
+            for decorator in node.decorator_list:
+                self.assertIn(ast.unparse(decorator), ("property", "staticmethod"), where)
+        for name, tree in self.trees.items():
+            for at, node in enumerate(tree.body):
+                if isinstance(node, ast.Expr):
+                    self.assertEqual(at, 0, name)
+                elif isinstance(node, ast.Assign):
+                    ast.literal_eval(node.value)
+                    self.assertEqual([type(target) for target in node.targets], [ast.Name], name)
+                else:
+                    self.assertIsInstance(node, (ast.ImportFrom, ast.FunctionDef, ast.ClassDef), name)
+
+    def test_imports(self):
+        needs = {}
+        for name, tree in self.trees.items():
+            needs[name] = []
+            for node in ast.walk(tree):
+                if not isinstance(node, ast.ImportFrom):
+                    continue
+                self.assertIn(node, tree.body)
+                self.assertEqual(node.level, 0)
+                names = {alias.name for alias in node.names}
+                self.assertEqual([alias for alias in node.names if alias.asname], [])
+                if node.module in LIBRARY:
+                    self.assertLessEqual(names, LIBRARY[node.module])
+                    continue
+                package, module = node.module.split(".")
+                self.assertEqual(package, "needleblind")
+                needs[name].append(f"{module}.py")
+                defined = {item.name for item in self.trees[f"{module}.py"].body if hasattr(item, "name")}
+                defined |= {target.id for item in self.trees[f"{module}.py"].body if isinstance(item, ast.Assign)
+                            for target in item.targets}
+                self.assertLessEqual(names, defined)
+                used = {item.id for item in ast.walk(tree) if isinstance(item, ast.Name)}
+                self.assertLessEqual(names, used, name)
+        done = []
+        while len(done) < len(needs):
+            free = [name for name in needs if name not in done and set(needs[name]) <= set(done)]
+            self.assertTrue(free, "files import from each other")
+            done.extend(free)
+
+    def test_names(self):
+        for name, tree in self.trees.items():
+            top = [node.name for node in tree.body if isinstance(node, (ast.FunctionDef, ast.ClassDef))]
+            top += [target.id for node in tree.body if isinstance(node, ast.Assign) for target in node.targets]
+            imported = [alias.name for node in tree.body if isinstance(node, ast.ImportFrom) for alias in node.names]
+            self.assertEqual(len(top + imported), len(set(top + imported)), name)
+            bound = bound_names(tree)
+            for word in imported:
+                self.assertEqual(bound.count(word), 1, f"{name}: {word}")
+            for word in bound:
+                self.assertRegex(word, r"^(_|_?[A-Za-z][A-Za-z0-9_]*|__[a-z]+__)$", name)
+                self.assertNotIn(word, BARRED, name)
+                if word.startswith("__"):
+                    self.assertIn(word, DOUBLE, name)
+                else:
+                    self.assertFalse(hasattr(builtins, word), f"{name}: {word}")
+            known = set(bound) | BUILTINS
+            for node in ast.walk(tree):
+                if isinstance(node, ast.Name) and isinstance(node.ctx, ast.Load):
+                    self.assertIn(node.id, known, name)
+                    self.assertNotEqual(node.id, "_", name)
+
+    def test_methods_and_attributes(self):
+        methods, attributes = set(), set()
+        for _, node in self.each(ast.ClassDef):
+            own = [item.name for item in node.body if isinstance(item, ast.FunctionDef)]
+            kept = {item.attr for item in ast.walk(node)
+                    if isinstance(item, ast.Attribute) and isinstance(item.ctx, ast.Store)}
+            self.assertEqual(len(own), len(set(own)), node.name)
+            self.assertFalse(kept & set(own), node.name)
+            methods |= set(own)
+            attributes |= kept
+        self.assertFalse(attributes & (BARRED | BARRED_ATTRIBUTES))
+        self.assertFalse(methods & BARRED)
+        for where, node in self.each(ast.Call):
+            if isinstance(node.func, ast.Attribute):
+                self.assertIn(node.func.attr, methods | METHODS, where)
+        for where, node in self.each(ast.Attribute):
+            self.assertIn(node.attr, methods | attributes | METHODS, where)
+
+    def test_values(self):
+        for where, node in self.each(ast.Constant):
+            self.assertIsInstance(node.value, (int, str, type(None)), where)
+            if isinstance(node.value, str):
+                self.assertNotIn("%", node.value, where)
+        for where, node in self.each(ast.Compare):
+            for sign, right in zip(node.ops, node.comparators):
+                if isinstance(sign, (ast.Is, ast.IsNot)):
+                    self.assertIn(ast.unparse(right), ("None", "True", "False"), where)
+        for where, node in self.each(ast.BinOp, ast.AugAssign):
+            self.assertNotIsInstance(node.op, (ast.Div, ast.MatMult, ast.Pow), where)
+        for where, node in self.each(ast.Set):
+            self.assertLessEqual(len(node.elts), 2, where)
+
+    def test_equality_asks_for_the_class_first(self):
+        for where, node in self.each(ast.ClassDef):
+            for item in node.body:
+                if isinstance(item, ast.FunctionDef) and item.name == "__eq__":
+                    text = ast.unparse(item.body[0])
+                    self.assertTrue(text.startswith(f"return isinstance(other, {node.name}) and "), where)
+
+
+class Interface(unittest.TestCase):
+    """The names that the document lists, with their parameters."""
+
+    FUNCTIONS = {
+        "names": {"is_name": "value", "is_number": "value, least, most", "is_bit": "value",
+                  "is_bits": "value, many=None", "program_name": "value", "wire_name": "value"},
+        "bits": {"bits_of": "value, width", "number_of": "bits", "parity": "bits", "bit_rows": "many"},
+        "expressions": {"tokens": "line", "read_expression": "line", "expression_text": "tree", "names_in": "tree",
+                        "worth": "tree, width, words, rows"},
+    }
+    CLASSES = {}
+
+    def test_functions(self):
+        for module, functions in self.FUNCTIONS.items():
+            loaded = importlib.import_module(f"needleblind.{module}")
+            for name, parameters in functions.items():
+                function = getattr(loaded, name)
+                self.assertEqual(str(inspect.signature(function)), f"({parameters})", name)
+                self.assertEqual(function.__module__, loaded.__name__)
+
+    def test_classes(self):
+        for module, classes in self.CLASSES.items():
+            loaded = importlib.import_module(f"needleblind.{module}")
+            for name, methods in classes.items():
+                made = getattr(loaded, name)
+                self.assertEqual(made.__module__, loaded.__name__)
+                for method, parameters in methods.items():
+                    self.assertIn(method, vars(made), name)
+                    found = vars(made)[method]
+                    if parameters == "property":
+                        self.assertIsInstance(found, property)
+                    else:
+                        expected = f"(self, {parameters})" if parameters else "(self)"
+                        self.assertEqual(str(inspect.signature(found)), expected, f"{name}.{method}")
+
+
+if __name__ == "__main__":
+    unittest.main()
