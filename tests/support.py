@@ -85,10 +85,48 @@ def _random_deeds(source, width, rows, many, depth):
 def _random_text(source, width, rows):
     while True:
         text = bracketed(random_tree(source, source.randint(0, 2), ("a", "b", "c"), rows, 2 ** width - 1))
-        if read_expression(text) is not None:
+        # It may stand as an index ahead of an equals sign, too, within brackets more.
+        if read_expression(f"m[{text}]") is not None:
             return text
 
 
 def sources(many):
     """So many sources of chance, each one the same whenever the tests run."""
     return [random.Random(seed) for seed in range(many)]
+
+
+class Plain:
+    """Worths by the strings of bits, to compare with."""
+
+    def __init__(self, width, words, rows):
+        self.width, self.words, self.rows = width, words, rows
+
+    def cut(self, number):
+        return int(f"{number % 2 ** 40:b}".zfill(60)[-self.width:], 2)
+
+    def bitwise(self, left, right, turn):
+        pairs = zip(f"{left:060b}", f"{right:060b}")
+        return int("".join("1" if turn(one == "1", other == "1") else "0" for one, other in pairs), 2)
+
+    def of(self, tree):
+        kind, *rest = tree
+        if kind == "number":
+            return self.cut(rest[0])
+        if kind == "word":
+            return self.cut(self.words[rest[0]])
+        if kind == "at":
+            row = self.rows[rest[0]]
+            return self.cut((row * 64)[self.of(rest[1])])
+        worths = [self.of(part) for part in rest]
+        return self.cut({
+            "~": lambda x: self.bitwise(x, 0, lambda a, b: not a),
+            "half": lambda x: int("0" + f"{x:b}"[:-1], 2),
+            "twice": lambda x: int(f"{x:b}0", 2),
+            "+": lambda x, y: x + y,
+            "-": lambda x, y: x + 2 ** 40 - y,
+            "&": lambda x, y: self.bitwise(x, y, lambda a, b: a and b),
+            "|": lambda x, y: self.bitwise(x, y, lambda a, b: a or b),
+            "^": lambda x, y: self.bitwise(x, y, lambda a, b: a != b),
+            "==": lambda x, y: int(x == y),
+            "<": lambda x, y: int(x < y),
+        }[kind](*worths))

@@ -2,7 +2,7 @@ import copy
 import unittest
 
 from needleblind.expressions import expression_text, names_in, read_expression, tokens, worth
-from support import ANY_VALUES, PREFIXES, SIGNS, bracketed, random_tree, sources
+from support import ANY_VALUES, PREFIXES, SIGNS, Plain, bracketed, random_tree, sources
 
 A = ("word", "a")
 B = ("word", "b")
@@ -123,7 +123,7 @@ class Reading(unittest.TestCase):
                      "m[", "m[]", "m[a", "m]", "[a]", "m[a]]", "m(a)", "m[a][b]", "(m)[a]", "1[a]", "m[a](b)", "m[a)",
                      "(a]", "~", "half", "twice", "half half", "a~", "a~b", "a half b", "half+a", "a=b", "=", "==",
                      "a==", "a===b", "a= =b", "a<=b", "a!b", "a*b", "a\n", "\na", "a+\nb", "a>b", "show a", "if a",
-                     "a = b", "a;b", "a,b", "half = 1", "m[1] = 2"):
+                     "++a", "-+a", "&&a", "!+a", "=&b", "a+++b", "a&&b", ")+a", "a = b", "a;b", "a,b", "half = 1", "m[1] = 2"):
             self.check(line, None)
 
     def test_any_value(self):
@@ -390,43 +390,6 @@ class Worths(unittest.TestCase):
 
     def test_by_name(self):
         self.assertEqual(worth(tree=A, width=2, words={"a": 7}, rows={}), 3)
-
-
-class Plain:
-    """Worths by the strings of bits, to compare with."""
-
-    def __init__(self, width, words, rows):
-        self.width, self.words, self.rows = width, words, rows
-
-    def cut(self, number):
-        return int(f"{number % 2 ** 40:b}".zfill(60)[-self.width:], 2)
-
-    def bitwise(self, left, right, turn):
-        pairs = zip(f"{left:060b}", f"{right:060b}")
-        return int("".join("1" if turn(one == "1", other == "1") else "0" for one, other in pairs), 2)
-
-    def of(self, tree):
-        kind, *rest = tree
-        if kind == "number":
-            return self.cut(rest[0])
-        if kind == "word":
-            return self.cut(self.words[rest[0]])
-        if kind == "at":
-            row = self.rows[rest[0]]
-            return self.cut((row * 64)[self.of(rest[1])])
-        worths = [self.of(part) for part in rest]
-        return self.cut({
-            "~": lambda x: self.bitwise(x, 0, lambda a, b: not a),
-            "half": lambda x: int("0" + f"{x:b}"[:-1], 2),
-            "twice": lambda x: int(f"{x:b}0", 2),
-            "+": lambda x, y: x + y,
-            "-": lambda x, y: x + 2 ** 40 - y,
-            "&": lambda x, y: self.bitwise(x, y, lambda a, b: a and b),
-            "|": lambda x, y: self.bitwise(x, y, lambda a, b: a or b),
-            "^": lambda x, y: self.bitwise(x, y, lambda a, b: a != b),
-            "==": lambda x, y: int(x == y),
-            "<": lambda x, y: int(x < y),
-        }[kind](*worths))
 
 
 if __name__ == "__main__":

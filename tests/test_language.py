@@ -199,8 +199,23 @@ class Interface(unittest.TestCase):
         "bits": {"bits_of": "value, width", "number_of": "bits", "parity": "bits", "bit_rows": "many"},
         "expressions": {"tokens": "line", "read_expression": "line", "expression_text": "tree", "names_in": "tree",
                         "worth": "tree, width, words, rows"},
+        "walks": {"walk": "program, worths, *, most=200", "check_secrets": "program, worths"},
+        "codes": {"is_instruction": "value", "instruction_text": "row", "read_instruction": "text"},
+        "machines": {"machine_at": "code, standing"},
     }
-    CLASSES = {}
+    CLASSES = {
+        "programs": {"Program": {"__init__": "text", "text": "", "__str__": "", "__repr__": "", "__eq__": "other",
+                                 "hidden": "", "words": "", "rows": "", "deeds": ""}},
+        "walks": {"Walk": {"word": "name, at=0"}},
+        "codes": {"Code": {"__init__": "program", "rows": "", "text": "", "__str__": "", "__repr__": "",
+                           "__eq__": "other", "__len__": "", "memory": "", "address": "name, at=0"}},
+        "machines": {"Machine": {"__init__": "code, worths", "step": "", "go": "beats", "beat": "property",
+                                 "place": "property", "outputs": "property", "word": "name, at=0", "branch": "",
+                                 "standing": ""}},
+        "circuits": {"Circuit": {"__init__": "text", "text": "", "__str__": "", "__repr__": "", "__eq__": "other",
+                                 "__contains__": "value", "cells": "", "secret_cells": "", "ins": "", "gates": "",
+                                 "opens": "", "wires": ""}},
+    }
 
     def test_functions(self):
         for module, functions in self.FUNCTIONS.items():

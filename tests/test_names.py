@@ -102,6 +102,7 @@ class RowsOfBits(unittest.TestCase):
             expected = type(value) in (list, tuple) and all(type(item) is int and item in (0, 1) for item in value)
             self.assertIs(is_bits(value), expected, repr(value))
             self.assertIs(is_bits(value, 2), expected and len(value) == 2, repr(value))
+        self.assertIs(is_bits([0, 1], True), True)
         self.assertIs(is_bits("01"), False)
         self.assertIs(is_bits({0: 1}), False)
         self.assertIs(is_bits(0), False)
