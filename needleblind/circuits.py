@@ -1,7 +1,7 @@
 """Circuits: the lines of their texts."""
 
 from needleblind.errors import BadCircuit, TooMany
-from needleblind.lines import cut_lines
+from needleblind.lines import cut_lines, gate_of, read_by
 from needleblind.names import wire_name
 
 MOST_CELLS = 120
@@ -100,11 +100,8 @@ def _form_of(words):
         return ("cell", words[1], (words[1], None, words[3]), ())
     if len(words) == 5 and words[0] == "cell" and words[2] in ("0", "1") and words[3] == "from":
         return ("cell", words[1], (words[1], int(words[2]), words[4]), ())
-    if len(words) == 4 and words[1] == "=" and words[2] == "not":
-        return ("gate", words[0], (words[0], "not", words[3], None), (words[3],))
-    if len(words) == 5 and words[1] == "=" and words[3] in ("xor", "and"):
-        return ("gate", words[0], (words[0], words[3], words[2], words[4]), (words[2], words[4]))
-    return None
+    gate = gate_of(words)
+    return None if gate is None else ("gate", gate[0], gate, read_by(gate))
 
 
 def _fault_of(form, given):

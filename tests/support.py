@@ -130,3 +130,150 @@ class Plain:
             "==": lambda x, y: int(x == y),
             "<": lambda x, y: int(x < y),
         }[kind](*worths))
+
+
+def is_row(value, many=None):
+    """Whether any value is a list or tuple of bits, asked without the package."""
+    if type(value) not in (list, tuple) or (many is not None and len(value) != many):
+        return False
+    return all(type(bit) is int and bit in (0, 1) for bit in value)
+
+
+def random_bits(source, many):
+    """A row of so many bits."""
+    return tuple(source.randrange(2) for _ in range(many))
+
+
+def random_circuit(source, secrets=2, cells=1, ins=1, gates=6, opens=2):
+    """The text of a random circuit with so many of each; its lines have a random order that may stand."""
+    heads = [("secret", f"s{at}") for at in range(secrets)] + [("cell", f"c{at}") for at in range(cells)]
+    heads += [("in", f"x{at}") for at in range(ins)] + [("gate", f"g{at}") for at in range(gates)]
+    heads += [("open", "")] * opens
+    source.shuffle(heads)
+    # What gives a wire without reading one stands ahead of all others, or is at least the first line.
+    giving = [head for head in heads if head[0] not in ("gate", "open")]
+    rest = [head for head in heads if head[0] in ("gate", "open")]
+    if giving and source.random() < 0.7:
+        rest.extend(giving[1:])
+        giving = giving[:1]
+        source.shuffle(rest)
+    heads = giving + rest
+    wires = [name for kind, name in heads if kind != "open"]
+    lines, known = [], []
+    for kind, name in heads:
+        near = known[-4:] if source.random() < 0.5 else known
+        if kind == "open":
+            lines.append(f"open {source.choice(known)}")
+            continue
+        if kind == "secret":
+            lines.append(f"secret {name} from {source.choice(wires)}")
+        elif kind == "cell":
+            lines.append(f"cell {name} {source.randrange(2)} from {source.choice(wires)}")
+        elif kind == "in":
+            lines.append(f"in {name}")
+        else:
+            a, b, gate = source.choice(near), source.choice(near), source.choice(("xor", "and", "and", "not"))
+            lines.append(f"{name} = not {a}" if gate == "not" else f"{name} = {a} {gate} {b}")
+        known.append(name)
+    return "".join(f"{line}\n" for line in lines)
+
+
+def wire_bits(text, first, later, beats):
+    """For each beat, a dict from each wire of a circuit to its bit, reckoned from the text alone."""
+    lines = [line.split() for line in text.splitlines()]
+    first = list(first)
+    starts = {line[1]: first.pop(0) if line[0] == "secret" else int(line[2]) for line in lines
+              if line[0] in ("secret", "cell") and line[1] != "="}
+    found = []
+    for at in range(beats):
+        bits = {}
+        row = list(later[at]) if at < len(later) else []
+        for line in lines:
+            if line[1] == "=":
+                pair = [bits[word] for word in line[2:] if word in bits]
+                if "not" in line:
+                    bits[line[0]] = int(not pair[0])
+                elif "and" in line:
+                    bits[line[0]] = int(all(pair))
+                else:
+                    bits[line[0]] = int(pair[0] != pair[1])
+            elif line[0] in ("secret", "cell"):
+                bits[line[1]] = starts[line[1]] if at == 0 else found[-1][line[-1]]
+            elif line[0] == "in":
+                bits[line[1]] = row.pop(0)
+        found.append(bits)
+    return found
+
+
+def opened_rows(text, first, later, beats):
+    """The opened rows of a circuit, reckoned from the text alone."""
+    opened = [line.split()[1] for line in text.splitlines() if line.startswith("open ")]
+    return [tuple(bits[wire] for wire in opened) for bits in wire_bits(text, first, later, beats)]
+
+
+def piece_bits(text, parts, coins):
+    """A dict from each wire of a piece to its bit, reckoned from the text alone."""
+    head, *lines = [line.split() for line in text.splitlines()]
+    letters = "ab" if head[1] == "product" else "a"
+    bits = dict(zip([f"{letter}{at}" for letter in letters for at in range(int(head[2]))], parts))
+    coins = list(coins)
+    for line in lines[:-1]:
+        if line[0] == "coin" and line[1] != "=":
+            bits[line[1]] = coins.pop(0)
+        elif line[2] == "not":
+            bits[line[0]] = 1 - bits[line[3]]
+        elif line[3] == "xor":
+            bits[line[0]] = (bits[line[2]] + bits[line[4]]) % 2
+        else:
+            bits[line[0]] = bits[line[2]] * bits[line[4]]
+    return bits
+
+
+def random_piece(source, kind=None, n=None, coins=None, gates=None, right=False):
+    """The text of a random piece; a right one has a last out that makes it so."""
+    kind = kind or source.choice(("product", "refresh"))
+    n = n or source.randint(2, 3)
+    parts = [f"{letter}{at}" for letter in ("ab" if kind == "product" else "a") for at in range(n)]
+    coins = source.randint(0, 3) if coins is None else coins
+    gates = source.randint(0, 8) if gates is None else gates
+    names = [f"r{at}" for at in range(coins)] + [f"g{at}" for at in range(gates)]
+    source.shuffle(names)
+    known, lines = list(parts), []
+    for name in names:
+        a, b = source.choice(known), source.choice(known)
+        if name[0] == "r":
+            lines.append(f"coin {name}")
+        else:
+            lines.append(source.choice((f"{name} = {a} xor {b}", f"{name} = {a} and {b}", f"{name} = not {a}",
+                                        f"{name} = {a} xor {b}")))
+        known.append(name)
+    outs = [source.choice(known[-6:]) for _ in range(n)]
+    if right:
+        lines, outs = _righted(kind, n, lines, outs)
+    return "".join(f"{line}\n" for line in [f"piece {kind} {n}", *lines, f"out {' '.join(outs)}"])
+
+
+def _righted(kind, n, lines, outs):
+    lines = list(lines)
+    wires = [f"a{at}" for at in range(n)] + outs[:-1]
+    if kind == "product":
+        wires = [f"w{i}{j}" for i in range(n) for j in range(n)] + outs[:-1]
+        lines += [f"w{i}{j} = a{i} and b{j}" for i in range(n) for j in range(n)]
+    last = wires[0]
+    for at, wire in enumerate(wires[1:]):
+        lines.append(f"v{at} = {last} xor {wire}")
+        last = f"v{at}"
+    return lines, outs[:-1] + [last]
+
+
+def leaky_piece(source, text, many):
+    """The text of a piece with so many gates more, which its outs do not read."""
+    head, *lines, out = text.splitlines()
+    parts = [f"{letter}{at}" for letter in ("ab" if "product" in head else "a") for at in range(int(head.split()[-1]))]
+    for number in range(many):
+        at = source.randint(0, len(lines))
+        known = parts + [line.split()[1] if line.startswith("coin") else line.split()[0] for line in lines[:at]]
+        a, b = source.choice(known), source.choice(known)
+        gate = source.choice((f"{a} and {b}", f"{a} xor {b}", f"{a} xor {b}", f"not {a}"))
+        lines.insert(at, f"x{number} = {gate}")
+    return "".join(f"{line}\n" for line in [head, *lines, out])
