@@ -153,6 +153,7 @@ class Language(unittest.TestCase):
     def test_methods_and_attributes(self):
         methods, attributes = set(), set()
         for _, node in self.each(ast.ClassDef):
+            attributes |= {target.id for item in node.body if isinstance(item, ast.Assign) for target in item.targets}
             own = [item.name for item in node.body if isinstance(item, ast.FunctionDef)]
             kept = {item.attr for item in ast.walk(node)
                     if isinstance(item, ast.Attribute) and isinstance(item.ctx, ast.Store)}
@@ -182,6 +183,31 @@ class Language(unittest.TestCase):
         for where, node in self.each(ast.Set):
             self.assertLessEqual(len(node.elts), 2, where)
 
+    def test_generators(self):
+        # Where a class has an ==, any, all, sum and the like take lists.
+        for where, node in self.each(ast.GeneratorExp, ast.YieldFrom, ast.Yield):
+            self.assertNotIsInstance(node, ast.GeneratorExp, where)
+        generators, others = [], []
+        for _, node in self.each(ast.FunctionDef):
+            yields = any(isinstance(item, (ast.Yield, ast.YieldFrom)) for item in ast.walk(node))
+            (generators if yields else others).append(node.name)
+        self.assertEqual(len(generators), len(set(generators)))
+        self.assertFalse(set(generators) & (set(others) | METHODS))
+        for where, node in self.each(ast.Call):
+            if isinstance(node.func, ast.Name) and node.func.id in generators:
+                self.assertEqual([item for item in node.args if not isinstance(item, (ast.Name, ast.Call))], [], where)
+
+    def test_no_name_is_a_method_and_an_attribute(self):
+        methods = {item.name for _, node in self.each(ast.ClassDef) for item in node.body
+                   if isinstance(item, ast.FunctionDef)}
+        attributes = {node.attr for _, node in self.each(ast.Attribute) if isinstance(node.ctx, ast.Store)}
+        self.assertFalse(methods & attributes)
+
+    def test_library_words_that_iterated_objects_bar(self):
+        # A tape is iterated over and has a length.
+        for where, node in self.each(ast.ImportFrom):
+            self.assertFalse({"product", "combinations", "permutations"} & {alias.name for alias in node.names}, where)
+
     def test_equality_asks_for_the_class_first(self):
         for where, node in self.each(ast.ClassDef):
             for item in node.body:
@@ -202,6 +228,19 @@ class Interface(unittest.TestCase):
         "walks": {"walk": "program, worths, *, most=200", "check_secrets": "program, worths"},
         "codes": {"is_instruction": "value", "instruction_text": "row", "read_instruction": "text"},
         "machines": {"machine_at": "code, standing"},
+        "plain": {"plain_rows": "circuit, secrets, beats", "differences": "circuit, one, other, beats",
+                  "first_parting": "circuit, one, other, beats"},
+        "blocks": {"block_lines": "block, prefix, wires"},
+        "processor": {"circuit_of": "code", "secrets_of": "code, worths", "shown_in": "rows"},
+        "tidy": {"tidied": "circuit"},
+        "same": {"same": "one, other"},
+        "judging": {"counts": "piece, lot, parts, without", "wrong_at": "piece", "lots": "piece, t",
+                    "bad_items": "piece, lot", "least_meeting": "pairs", "judge_piece": "piece, *, t=1",
+                    "holds": "piece, paper, *, t=1"},
+        "house": {"house_piece": "kind, n", "ring_piece": "n"},
+        "ranks": {"like_rank": "taken, parts, other, coins, *, lot, without"},
+        "tapes": {"parted": "bit, coins", "begun": "bit, n", "joined": "parts",
+                  "bits_needed": "circuit, beats, *, parts=4, refresh=True, pieces=None"},
     }
     CLASSES = {
         "programs": {"Program": {"__init__": "text", "text": "", "__str__": "", "__repr__": "", "__eq__": "other",
@@ -215,6 +254,16 @@ class Interface(unittest.TestCase):
         "circuits": {"Circuit": {"__init__": "text", "text": "", "__str__": "", "__repr__": "", "__eq__": "other",
                                  "__contains__": "value", "cells": "", "secret_cells": "", "ins": "", "gates": "",
                                  "opens": "", "wires": ""}},
+        "plain": {"Secrets": {"__init__": "first, later=()", "first": "", "later": "", "fits": "circuit, beats",
+                              "__eq__": "other", "__repr__": ""},
+                  "PlainRun": {"__init__": "circuit, secrets", "step": "", "beat": "property", "opened": "property",
+                               "bit": "wire"}},
+        "pieces": {"Piece": {"__init__": "text", "text": "", "__str__": "", "__repr__": "", "__eq__": "other",
+                             "parts": "", "coins": "", "lines": "", "outs": "", "worths": "parts, coins"}},
+        "judging": {"Taken": {"numbers": "lot", "is_taken": ""}, "Refused": {"paper": "", "is_taken": ""}},
+        "tapes": {"Tape": {"__init__": "bits", "text": "", "__str__": "", "__repr__": "", "__eq__": "other", "bits": "",
+                           "flipped": "positions", "__len__": "", "__getitem__": "at", "__iter__": "",
+                           "__xor__": "other", "read": "static text"}},
     }
 
     def test_functions(self):
@@ -236,6 +285,10 @@ class Interface(unittest.TestCase):
                     found = vars(made)[method]
                     if parameters == "property":
                         self.assertIsInstance(found, property)
+                    elif parameters.startswith("static "):
+                        self.assertIsInstance(found, staticmethod)
+                        expected = f"({parameters.removeprefix('static ')})"
+                        self.assertEqual(str(inspect.signature(getattr(made, method))), expected)
                     else:
                         expected = f"(self, {parameters})" if parameters else "(self)"
                         self.assertEqual(str(inspect.signature(found)), expected, f"{name}.{method}")
