@@ -83,7 +83,7 @@ class Processor:
         found = [root]
         for at in reversed(range(len(wires))):
             split = []
-            for number, wire in enumerate(found):
+            for number, wire in enumerate(list(found)):
                 if (2 * number + 1) << at < many:
                     upper = self.wiring.both(wire, wires[at])
                     split.extend([self.wiring.unlike(wire, upper), upper])

@@ -109,7 +109,7 @@ class Couple:
         level = list(found)
         while level:
             coming = []
-            for pair in level:
+            for pair in list(level):
                 for ins in range(len(self.in_rows)):
                     behind = self.behind(pair, ins)
                     if behind not in found:

@@ -30,6 +30,8 @@ BARRED_ATTRIBUTES = set("""items keys values pop update append clear extend inse
 BARRED_WORDS = re.compile(r"\b(typing|typing_extensions|enum|Enum|IntEnum|StrEnum|Flag|IntFlag|Generic|Protocol|ABC|"
                           r"ABCMeta|namedtuple|NamedTuple|TypedDict|TYPE_CHECKING|abstractmethod)\b|dataclass|overload|"
                           r"contextmanager|_wall|_WallAttr")
+VIEWS = ("items", "keys", "values")
+CHANGING = set("append clear extend insert pop remove reverse setdefault update".split())
 STATEMENTS = (ast.Assign, ast.AugAssign, ast.If, ast.While, ast.For, ast.Return, ast.Break, ast.Continue, ast.Pass,
               ast.Raise, ast.Expr, ast.FunctionDef, ast.ClassDef, ast.ImportFrom, ast.Try, ast.Delete)
 
@@ -55,6 +57,55 @@ def bound_names(tree):
             found.append(node.name)
         elif isinstance(node, ast.alias):
             found.append(node.asname or node.name)
+    return found
+
+
+def plainly_named(node):
+    """The names, fields and items that a value may be, also behind a choice."""
+    if isinstance(node, ast.IfExp):
+        return plainly_named(node.body) + plainly_named(node.orelse)
+    if isinstance(node, ast.BoolOp):
+        return [name for value in node.values for name in plainly_named(value)]
+    return [ast.unparse(node)] if isinstance(node, (ast.Name, ast.Attribute, ast.Subscript)) else []
+
+
+def walked_by(node):
+    """What a loop goes over, without a copy."""
+    if isinstance(node, ast.Call) and isinstance(node.func, ast.Name) and node.func.id in ("enumerate", "zip"):
+        return [name for value in node.args for name in walked_by(value)]
+    if isinstance(node, ast.Call) and isinstance(node.func, ast.Attribute) and node.func.attr in VIEWS:
+        return plainly_named(node.func.value)
+    return plainly_named(node)
+
+
+def changed_in(body):
+    found = []
+    for node in [node for statement in body for node in ast.walk(statement)]:
+        if isinstance(node, ast.Call) and isinstance(node.func, ast.Attribute) and node.func.attr in CHANGING:
+            found.append(ast.unparse(node.func.value))
+        elif isinstance(node, ast.Subscript) and not isinstance(node.ctx, ast.Load):
+            found.append(ast.unparse(node.value))
+        elif isinstance(node, ast.AugAssign):
+            found.append(ast.unparse(node.target))
+    return found
+
+
+def alike_in(function, names):
+    """All names that may name, somewhere in a function, what one of the names does."""
+    near = {}
+    for node in ast.walk(function):
+        for target in node.targets if isinstance(node, ast.Assign) else []:
+            pairs = [(target, node.value)]
+            if isinstance(target, ast.Tuple) and isinstance(node.value, ast.Tuple):
+                pairs = list(zip(target.elts, node.value.elts))
+            for one, other in [(ast.unparse(left), name) for left, right in pairs for name in plainly_named(right)]:
+                near.setdefault(one, []).append(other)
+                near.setdefault(other, []).append(one)
+    found, waiting = set(names), list(names)
+    while waiting:
+        coming = set(near.get(waiting.pop(), [])) - found
+        found |= coming
+        waiting.extend(coming)
     return found
 
 
@@ -196,6 +247,23 @@ class Language(unittest.TestCase):
         for where, node in self.each(ast.Call):
             if isinstance(node.func, ast.Name) and node.func.id in generators:
                 self.assertEqual([item for item in node.args if not isinstance(item, (ast.Name, ast.Call))], [], where)
+
+    def test_what_a_loop_walks_stays(self):
+        for where, function in self.each(ast.FunctionDef):
+            for loop in ast.walk(function):
+                if isinstance(loop, ast.For):
+                    walked = alike_in(function, walked_by(loop.iter))
+                    self.assertFalse(walked & set(changed_in(loop.body)), f"{where}, row {loop.lineno}")
+
+    def test_walked_lists_are_found_out(self):
+        rows = ["def f(a, b):", "    while a:", "        c = []", "        for x in a:", "            c.append(x)",
+                "        a = c if b else b"]
+        for walk, stays in (("a", False), ("list(a)", True), ("enumerate(a)", False), ("a or b", False)):
+            loop = rows[3].replace("in a", f"in {walk}").replace("for x in enumerate", "for _, x in enumerate")
+            function = ast.parse("\n".join([*rows[:3], loop, *rows[4:]])).body[0]
+            body = function.body[0].body[1]
+            walked = alike_in(function, walked_by(body.iter))
+            self.assertEqual(not walked & set(changed_in(body.body)), stays)
 
     def test_no_name_is_a_method_and_an_attribute(self):
         methods = {item.name for _, node in self.each(ast.ClassDef) for item in node.body
