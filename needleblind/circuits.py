@@ -20,8 +20,8 @@ class Circuit:
         self._ins = _told_by(forms, "in")
         self._gates = _told_by(forms, "gate")
         self._opens = _told_by(forms, "open")
-        # A dict, so that each wire is found at once; an open line names one that stands there already.
-        self._wires = {form[1]: True for form in forms}
+        # By each wire what gives it; a dict, so that each one is found at once.
+        self._kinds = {form[1]: _giver_of(form) for form in forms if form[0] != "open"}
         _check_many("cells", len(self._cells), MOST_CELLS)
         _check_many("ins", len(self._ins), MOST_INS)
         _check_many("gates", len(self._gates), MOST_GATES)
@@ -31,7 +31,7 @@ class Circuit:
         return isinstance(other, Circuit) and self._text == other._text
 
     def __contains__(self, value):
-        return isinstance(value, str) and value in self._wires
+        return isinstance(value, str) and value in self._kinds
 
     def __str__(self):
         return str(self._text)
@@ -65,7 +65,11 @@ class Circuit:
 
     def wires(self):
         """All wires."""
-        return list(self._wires)
+        return list(self._kinds)
+
+    def kind_of(self, value):
+        """What gives a wire: cell, in, xor, and or not; None for any value that is no wire."""
+        return self._kinds[value] if isinstance(value, str) and value in self._kinds else None
 
 
 def _forms_in(text):
@@ -102,6 +106,10 @@ def _form_of(words):
         return ("cell", words[1], (words[1], int(words[2]), words[4]), ())
     gate = gate_of(words)
     return None if gate is None else ("gate", gate[0], gate, read_by(gate))
+
+
+def _giver_of(form):
+    return form[2][1] if form[0] == "gate" else form[0]
 
 
 def _fault_of(form, given):

@@ -3,6 +3,7 @@
 from needleblind.errors import BadName, BadNumber
 from needleblind.lines import gate_line, line_text
 from needleblind.names import is_number
+from needleblind.pairs import number_pairs
 from needleblind.pieces import KINDS, Piece
 
 MOST_PARTS = 10
@@ -16,7 +17,7 @@ def house_piece(kind, n):
         raise BadNumber(n)
     if kind == "product":
         return _product_piece(n)
-    return _refresh_piece(n, _pairs(n), [[j for j in range(n) if j != i] for i in range(n)])
+    return _refresh_piece(n, number_pairs(n), [[j for j in range(n) if j != i] for i in range(n)])
 
 
 def ring_piece(n):
@@ -25,10 +26,6 @@ def ring_piece(n):
         raise BadNumber(n)
     coins = [*[(i, i + 1) for i in range(n - 1)], (0, n - 1)]
     return _refresh_piece(n, coins, [sorted([(i - 1) % n, (i + 1) % n]) for i in range(n)])
-
-
-def _pairs(n):
-    return [(i, j) for i in range(n) for j in range(i + 1, n)]
 
 
 def _refresh_piece(n, coins, partners):
@@ -46,7 +43,7 @@ def _refresh_piece(n, coins, partners):
 
 
 def _product_piece(n):
-    pairs = _pairs(n)
+    pairs = number_pairs(n)
     lines = [f"piece product {n}"]
     lines.extend([f"coin z{i}{j}" for i, j in pairs])
     lines.extend([gate_line(f"p{i}{j}", "and", f"a{i}", f"b{j}") for i in range(n) for j in range(n) if i != j])

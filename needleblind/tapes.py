@@ -89,11 +89,11 @@ def bits_needed(circuit, beats, *, parts=4, refresh=True, pieces=None):
     if beats == 0:
         return door
     each_beat = len(circuit.ins()) * (parts - 1)
-    each_beat += sum([_coins_at(name, parts, laid) for name, kind, _, _ in circuit.gates() if kind == "and"])
-    between = sum([_coins_at(name, parts, laid) for name, _, _ in circuit.cells()]) if refresh else 0
+    each_beat += sum([coins_at(name, parts, laid) for name, kind, _, _ in circuit.gates() if kind == "and"])
+    between = sum([coins_at(name, parts, laid) for name, _, _ in circuit.cells()]) if refresh else 0
     return door + each_beat * beats + between * (beats - 1)
 
 
-def _coins_at(name, parts, laid):
-    # How many coins an and gate uses, or the refresh of a cell.
+def coins_at(name, parts, laid):
+    """How many coins an and gate uses, or the refresh of a cell, with a dict of the pieces that are laid."""
     return len(laid[name].piece.coins()) if name in laid else parts * (parts - 1) // 2

@@ -309,6 +309,14 @@ class Interface(unittest.TestCase):
         "ranks": {"like_rank": "taken, parts, other, coins, *, lot, without"},
         "tapes": {"parted": "bit, coins", "begun": "bit, n", "joined": "parts",
                   "bits_needed": "circuit, beats, *, parts=4, refresh=True, pieces=None"},
+        "gates": {"xor_parts": "a, b", "not_parts": "a", "refresh_parts": "parts, coins",
+                  "product_parts": "a, b, coins", "refresh_wires": "parts, coins", "product_wires": "a, b, coins"},
+        "looks": {"all_looks": "circuit, at, *, parts=4, refresh=True, pieces=None",
+                  "look_count": "circuit, at, *, parts=4, refresh=True, pieces=None",
+                  "is_look": "circuit, value, at, *, parts=4, refresh=True, pieces=None",
+                  "look_numbers": "look", "look_form": "value"},
+        "numbers": {"least_outside": "numbers, n", "numbers_looked": "looks, *, pieces=None",
+                    "turned_door": "d, k, n", "turned_refresh": "d, k, q, n", "turned_product": "da, db, a, b, k"},
     }
     CLASSES = {
         "programs": {"Program": {"__init__": "text", "text": "", "__str__": "", "__repr__": "", "__eq__": "other",
@@ -332,6 +340,13 @@ class Interface(unittest.TestCase):
         "tapes": {"Tape": {"__init__": "bits", "text": "", "__str__": "", "__repr__": "", "__eq__": "other", "bits": "",
                            "flipped": "positions", "__len__": "", "__getitem__": "at", "__iter__": "",
                            "__xor__": "other", "read": "static text"}},
+        "rules": {"Rule": {"told": "beat, readings, opened", "__call__": "beat, readings, opened"},
+                  "Fixed": {"__init__": "rows", "told": "beat, readings, opened"},
+                  "ByParity": {"__init__": "table", "told": "beat, readings, opened"}},
+        "runs": {"Run": {"__init__": "circuit, secrets, tape, *, t=1, rule, pieces=None, parts=None, refresh=True",
+                         "step": "", "go": "beats", "glance": "looks", "beat": "property", "looked": "property",
+                         "readings": "property", "opened": "property", "used": "property", "ends": "property",
+                         "worth": "look", "parts": "wire", "branch": ""}},
     }
 
     def test_functions(self):
