@@ -57,6 +57,19 @@ def check_lengths(circuit, secrets):
         raise BadSecrets(wrong)
 
 
+def check_fit(circuit, secrets, beats):
+    """Raises BadSecrets("first") or BadSecrets("later") for secrets that do not fit for so many beats."""
+    check_lengths(circuit, secrets)
+    if not secrets.fits(circuit, beats):
+        raise BadSecrets("later")
+
+
+def check_beats(beats):
+    """Raises BadNumber for any value that is no number of beats of a run."""
+    if not is_number(beats, 0, MOST_BEATS):
+        raise BadNumber(beats)
+
+
 class PlainRun:
     """A plain run of a circuit, which does one beat after another."""
 
@@ -120,14 +133,14 @@ def _first_bits(cells, row):
 
 def plain_rows(circuit, secrets, beats):
     """The list of the opened rows of so many beats."""
-    _check_beats(beats)
+    check_beats(beats)
     run = PlainRun(circuit, secrets)
     return [run.step() for _ in range(beats)]
 
 
 def differences(circuit, one, other, beats):
     """For each beat, a dict from each wire to its difference for two secrets."""
-    _check_beats(beats)
+    check_beats(beats)
     first = _wire_bits(circuit, one, beats)
     second = _wire_bits(circuit, other, beats)
     return [{wire: bits[wire] ^ others[wire] for wire in bits} for bits, others in zip(first, second)]
@@ -152,8 +165,3 @@ def first_parting(circuit, one, other, beats):
         if row != second[at]:
             return at
     return None
-
-
-def _check_beats(beats):
-    if not is_number(beats, 0, MOST_BEATS):
-        raise BadNumber(beats)

@@ -5,7 +5,7 @@ from needleblind.covers import Beat, Cover, check_pieces, part_count
 from needleblind.errors import BadLook, BadNumber, BadSecrets, NoWire, TapeEnds, TooMany
 from needleblind.looks import Sight, look_row
 from needleblind.names import is_number
-from needleblind.plain import MOST_BEATS, check_lengths
+from needleblind.plain import MOST_BEATS, check_beats, check_lengths
 
 GREATEST_T = 3
 MOST_PARTS = 10
@@ -98,8 +98,7 @@ class Run:
 
     def go(self, beats):
         """Does so many beats, or none at all if one of them cannot be done."""
-        if not is_number(beats, 0, MOST_BEATS):
-            raise BadNumber(beats)
+        check_beats(beats)
         done_before = self._done
         last_before = self._last
         whole = None

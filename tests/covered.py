@@ -2,10 +2,12 @@
 
 import functools
 import itertools
+import random
 
 from needleblind.house import house_piece, ring_piece
 from needleblind.judging import judge_piece
 from needleblind.pieces import Piece
+from needleblind.rules import ByParity, Fixed
 from support import leaky_piece, piece_bits, random_bits, random_circuit, sources
 
 GATES = ("xor", "and", "not")
@@ -218,3 +220,42 @@ class Case:
         run = Covering(self.text, self.first if first is None else first, self.later if later is None else later,
                        self.tape if tape is None else tape, self.n, self.refresh, self.laid)
         return run.go(self.beats)
+
+
+class Picking:
+    """A rule that looks by chance, but the same whenever it is asked with the same arguments."""
+
+    def __init__(self, seed, rows, t):
+        # By beat, the looks that there are.
+        self.seed, self.rows, self.t = seed, rows, t
+
+    def __call__(self, beat, readings, opened):
+        if beat >= len(self.rows):
+            return []
+        source = random.Random(f"{self.seed} {beat} {readings} {opened}")
+        looks = self.rows[beat]
+        return source.sample(looks, min(len(looks), source.randint(0, self.t)))
+
+
+def random_rule(source, case, t):
+    """A rule of any kind for a random case, whose looks are those of its beats."""
+    rows = [list(looks) for looks in case.covering().looks]
+
+    def told():
+        return [source.sample(looks, min(len(looks), source.randint(0, t))) for looks in rows]
+
+    kind = source.randrange(5)
+    if kind == 0:
+        return Fixed(told())
+    if kind == 1:
+        return ByParity(list(zip(told(), told())))
+    if kind == 2:
+        fixed = told()
+        return lambda beat, readings, opened: tuple(fixed[beat]) * 2 if beat < len(fixed) else ()
+    return Picking(source.random(), rows, t)
+
+
+def other_secrets(source, case, share=0.5):
+    """Other secrets for a case, of which some bits are turned."""
+    turn = [[bit ^ (source.random() < share) for bit in row] for row in [case.first, *case.later]]
+    return turn[0], turn[1:]

@@ -55,6 +55,8 @@ def bound_names(tree):
             found.append(node.arg)
         elif isinstance(node, (ast.FunctionDef, ast.ClassDef)):
             found.append(node.name)
+        elif isinstance(node, ast.ExceptHandler) and node.name:
+            found.append(node.name)
         elif isinstance(node, ast.alias):
             found.append(node.asname or node.name)
     return found
@@ -317,6 +319,15 @@ class Interface(unittest.TestCase):
                   "look_numbers": "look", "look_form": "value"},
         "numbers": {"least_outside": "numbers, n", "numbers_looked": "looks, *, pieces=None",
                     "turned_door": "d, k, n", "turned_refresh": "d, k, q, n", "turned_product": "da, db, a, b, k"},
+        "twins": {"twin": "circuit, one, other, tape, *, t=1, rule, beats, pieces=None",
+                  "alike": "circuit, one, other, first, second, *, t=1, rule, beats, pieces=None"},
+        "cones": {"cone": "circuit, look, at, *, parts=4, refresh=True"},
+        "odds": {"odds": "circuit, secrets, *, t=1, rule, beats, parts=None, refresh=True, free=None",
+                 "unlike": "circuit, one, other, *, t=1, rule, beats, parts=None, refresh=True, free=None",
+                 "is_unlike": "circuit, one, other, paper, *, t=1, rule, beats, parts=None, refresh=True, free=None"},
+        "books": {"book_of": "run", "take_up": "book, circuit, secrets, tape, *, rule, pieces=None",
+                  "replay": "book, circuit, secrets, tape, *, rule, pieces=None"},
+        "day": {"day": "text, one, other, tape, *, t=1, rule, beats"},
     }
     CLASSES = {
         "programs": {"Program": {"__init__": "text", "text": "", "__str__": "", "__repr__": "", "__eq__": "other",
@@ -347,6 +358,10 @@ class Interface(unittest.TestCase):
                          "step": "", "go": "beats", "glance": "looks", "beat": "property", "looked": "property",
                          "readings": "property", "opened": "property", "used": "property", "ends": "property",
                          "worth": "look", "parts": "wire", "branch": ""}},
+        "twins": {"Twin": {}},
+        "books": {"Book": {"__init__": "text", "text": "", "__str__": "", "__repr__": "", "__eq__": "other",
+                           "__len__": "", "rows": "", "cut": "beats"}},
+        "day": {"Day": {}},
     }
 
     def test_functions(self):
