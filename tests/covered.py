@@ -13,11 +13,45 @@ from support import leaky_piece, piece_bits, random_bits, random_circuit, source
 GATES = ("xor", "and", "not")
 
 
+def sparse_product(hosts):
+    """A product with 4 parts, of whose pairs some share no coin: what they multiply goes with that of another pair."""
+    pairs = list(itertools.combinations(range(4), 2))
+    own = [pair for pair in pairs if pair not in hosts]
+    numbers = range(4)
+    lines = ["piece product 4"] + [f"coin z{i}{j}" for i, j in own[::-1]]
+    lines += [f"p{i}{j} = a{i} and b{j}" for i in numbers for j in numbers]
+    ends = {}
+    for i, j in own:
+        lines += [f"h{i}{j} = z{i}{j} xor p{i}{j}", f"k{j}{i} = h{i}{j} xor p{j}{i}"]
+        ends[i, j] = f"k{j}{i}"
+    for (i, j), host in hosts.items():
+        lines += [f"h{i}{j} = {ends[host]} xor p{i}{j}", f"k{j}{i} = h{i}{j} xor p{j}{i}"]
+        ends[host] = f"k{j}{i}"
+    outs = []
+    for i in numbers:
+        last = f"p{i}{i}"
+        for j in numbers:
+            if tuple(sorted((i, j))) in own:
+                lines.append(f"s{i}{j} = {last} xor {f'z{i}{j}' if i < j else ends[j, i]}")
+                last = f"s{i}{j}"
+        outs.append(last)
+    return "".join(f"{line}\n" for line in [*lines, f"out {' '.join(outs)}"])
+
+
+def bent_ring():
+    """The ring with 4 parts, with idle gates that multiply parts and coins."""
+    lines = ring_piece(4).text().splitlines()
+    idle = [f"x{i} = a{i} and r{coin}" for i, coin in enumerate(("01", "12", "23", "03"))]
+    idle += ["y0 = s01 and r03", "y1 = r12 and r23", "y2 = s21 and a2", "y3 = a3 and s32"]
+    return "".join(f"{line}\n" for line in lines[:-1] + idle + lines[-1:])
+
+
 @functools.cache
 def taken(name):
-    """A piece with 4 parts that is taken at t = 1, judged once: product, refresh, ring, or one with idle gates."""
+    """A piece with 4 parts that is taken at t = 1, judged once: of the house, with fewer coins, or with idle gates."""
     texts = {"product": house_piece("product", 4).text(), "refresh": house_piece("refresh", 4).text(),
-             "ring": ring_piece(4).text()}
+             "ring": ring_piece(4).text(), "product4": sparse_product({(0, 1): (0, 2), (2, 3): (1, 3)}),
+             "product5": sparse_product({(1, 2): (0, 3)}), "bent": bent_ring()}
     if name in texts:
         return judge_piece(Piece(texts[name]))
     kind, _, seed = name.partition("+")
@@ -180,7 +214,7 @@ def needed(text, n, beats, refresh=True, laid=None):
     """How many bits of a tape a run uses."""
     lines = lines_of(text)
     many = {kind: sum(gate_kind(line) == kind for line in lines) for kind in ("secret", "in")}
-    zeros = [0] * 1000000
+    zeros = [0] * 20000
     run = Covering(text, [0] * many["secret"], [[0] * many["in"]] * beats, zeros, n, refresh, laid).go(beats)
     return run.at
 
@@ -206,8 +240,9 @@ class Case:
         for line in lines_of(self.text):
             kind = gate_kind(line)
             if kind in ("and", "secret", "cell") and source.random() < share:
-                names = ("product", "product+0", "product+1") if kind == "and" else ("ring", "refresh", "ring+0", "ring+1",
-                                                                                  "refresh+0")
+                names = ("ring", "refresh", "bent", "ring+0", "refresh+0")
+                if kind == "and":
+                    names = ("product", "product+0", "product4", "product5")
                 found[wire_of(line)] = taken(source.choice(names))
         return found
 

@@ -51,6 +51,12 @@ class Telling(Case):
         self.assertEqual({type(row) for row in circuit.cells() + circuit.gates()}, {tuple})
         self.assertEqual(Circuit(text=self.TEXT).text(), self.TEXT)
 
+    def test_what_gives_a_wire(self):
+        circuit = Circuit(self.TEXT)
+        kinds = {"a": "cell", "b": "cell", "d": "cell", "e": "cell", "x": "in", "y": "in", "p": "xor", "q": "and", "r": "not"}
+        for value in ANY_VALUES + circuit.wires() + ["z", circuit]:
+            self.assertEqual(circuit.kind_of(value), kinds.get(value) if isinstance(value, str) else None)
+
     def test_the_empty_text(self):
         circuit = Circuit("")
         self.assertEqual((circuit.text(), str(circuit), repr(circuit)), ("", "", "Circuit(0 cells, 0 ins, 0 gates)"))

@@ -97,7 +97,7 @@ class Looks(unittest.TestCase):
 
     def test_pieces(self):
         # Pieces at each secret cell, cell and and gate, also all of them.
-        pieces = {"a": taken("ring"), "b": taken("refresh"), "p": taken("product"), "s": taken("product+0"),
+        pieces = {"a": taken("ring"), "b": taken("refresh"), "p": taken("product"), "s": taken("product4"),
                   "d": taken("ring+0")}
         for names in ("", "a", "b", "p", "s", "d", "ap", "bs", "abps", "abpsd"):
             laid = {name: pieces[name] for name in names}

@@ -206,7 +206,12 @@ class Unlike(unittest.TestCase):
         named = {"t": 2, "rule": rule, "beats": 1, "parts": 2}
         one, other = Secrets([0]), Secrets([1])
         self.assertEqual(unlike(circuit, one, other, **named), (((0, 0),), 1, 0))
+        self.assertEqual(unlike(circuit, other, one, **named), (((0, 0),), 0, 1))
         self.assertIs(is_unlike(circuit, one, other, (((0, 0),), 1, 0), **named), True)
+        for counts in ((True, 0), (1, False), (True, False)):
+            self.assertIs(is_unlike(circuit, one, other, (((0, 0),), *counts), **named), False)
+        for reading in ((False, 0), (0, False)):
+            self.assertIs(is_unlike(circuit, one, other, ((reading,), 1, 0), **named), False)
         self.assertIs(is_unlike(circuit=circuit, one=one, other=other, paper=(((0, 1),), 0, 1), free=None, refresh=True,
                                 **named), True)
         self.assertIs(is_unlike(circuit, one, other, (((1, 1),), 0, 1), **named), False)

@@ -77,6 +77,11 @@ class Rules(unittest.TestCase):
         rule = Fixed(deep)
         deep[0][0][1]["b"].append("d")
         self.assertEqual(both(rule, 0, [], []), [["a", {"b": ["c"]}]])
+        inner = ["a"]
+        rule = Fixed([([inner], (inner,))])
+        inner.append("b")
+        rule(0, [], [])[1][0].append("c")
+        self.assertEqual(both(rule, 0, [], []), [[["a"]], (["a"],)])
 
     def test_what_is_told_may_be_changed(self):
         for rule in (Rule(), Fixed([["a", "b"], []]), ByParity([(["a", "b"], ["c"]), ([], [])])):

@@ -210,7 +210,7 @@ class Twins(Cases):
 
     def test_every_look(self):
         """Each look of each beat of a circuit, by itself and beside one before and behind it."""
-        for laid in ({}, {"p": taken("product"), "b": taken("ring")}, {"a": taken("refresh"), "p": taken("product+0")}):
+        for laid in ({}, {"p": taken("product"), "b": taken("ring")}, {"a": taken("refresh"), "p": taken("product4")}):
             source = random.Random(5)
             case = Case(source, beats=3, secrets=1, cells=1, ins=1, gates=2, opens=0)
             case.text, case.pieces = TEXT, laid
@@ -223,6 +223,21 @@ class Twins(Cases):
                     rows = [[source.choice(told)] for told in looks]
                     rows[at] = [look]
                     self.check(case, ((0,), [(1,), (1,), (0,)]), Fixed(rows), 1)
+
+    def test_refreshes_that_multiply(self):
+        """Which row of coins is of like rank hangs on the parts here, and on all looks of the beat."""
+        text = "secret a from b\nsecret b from a\n"
+        case = Case(random.Random(1), beats=3, secrets=2, cells=0, ins=0, gates=0, opens=0)
+        case.text, case.pieces = text, {"a": taken("bent"), "b": taken("bent")}
+        case.laid = {name: piece.piece.text() for name, piece in case.pieces.items()}
+        many = bits_needed(Circuit(text), 3, pieces=case.pieces)
+        for source in sources(25):
+            case.first, case.tape = random_bits(source, 2), random_bits(source, many)
+            looks = [list(told) for told in case.covering().looks]
+            for name in ("x0", "x1", "x2", "x3", "y0", "y1", "y2", "y3"):
+                rows = [[source.choice(told)] for told in looks]
+                rows[source.choice((1, 2))] = [f"line {source.choice('ab')} {name}"]
+                self.check(case, (random_bits(source, 2), case.later), Fixed(rows), 1)
 
     def test_no_beats(self):
         for source in sources(30):
