@@ -49,9 +49,8 @@ class Cones(unittest.TestCase):
 
     def test_every_look(self):
         for refresh in (True, False):
-            for n in (2, 3, 4, 7):
-                self.agrees(TEXT, n, 3, refresh)
-            self.agrees(TEXT, 10, 2, refresh)
+            for n in range(2, 11):
+                self.agrees(TEXT, n, 3 if n < 7 else 2, refresh)
 
     def test_random_circuits(self):
         for source in sources(60):
